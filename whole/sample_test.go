@@ -109,3 +109,49 @@ func (s source) inputs(n int) []api.Input {
 	}
 	return l
 }
+
+// scripts are up to four scripts, most of them good.
+func (s source) scripts() []api.Prog {
+	var l []api.Prog
+	for range 1 + s.Intn(4) {
+		p := s.script()
+		if s.one(8) {
+			p.Jumps = -1
+		}
+		l = append(l, p)
+	}
+	return l
+}
+
+// rounds are what happens to an engine: about n dialogues a round of each ten are opened, few are drained.
+func (s source) rounds(n int) []api.Round {
+	var l []api.Round
+	opened, drains := 0, s.Intn(4)
+	for range n {
+		r := api.Round{Ticks: int64(s.Intn(4))}
+		if s.one(12) {
+			r.Ticks = int64(s.Intn(30))
+		}
+		for s.one(3) {
+			r.Opens = append(r.Opens, s.Intn(5))
+			opened++
+		}
+		who := func() int { return max(0, opened-s.Intn(6)) }
+		for s.one(2) {
+			r.Offers = append(r.Offers, api.Offer{Id: who(), Bytes: s.bytes(7), Eof: s.one(9)})
+		}
+		for !s.one(3) {
+			x := api.Report{Id: who(), Read: s.one(2), Write: s.one(2)}
+			if x.Write {
+				x.Accept = s.Intn(6)
+			}
+			r.Reports = append(r.Reports, x)
+		}
+		if drains == 1 && s.one(n) || drains == 2 && s.one(n/3) {
+			r.Drain = int64(1 + s.Intn(12))
+		}
+		r.Abort = drains == 3 && s.one(n)
+		l = append(l, r)
+	}
+	return l
+}
