@@ -15,8 +15,8 @@ type played struct {
 	told    []api.Event
 }
 
-// play is what an engine tells of the rounds of a number.
-func play(t *testing.T, seed int) played {
+// sampled is what an engine tells of the rounds of a number.
+func sampled(t *testing.T, seed int) played {
 	r := from(seed)
 	x := played{setup: r.setup(), scripts: r.scripts(), rounds: r.rounds(60)}
 	e := made(t, x.setup, x.scripts)
@@ -30,7 +30,7 @@ func play(t *testing.T, seed int) played {
 func TestHolds(t *testing.T) {
 	lives := 0
 	for seed := range 1500 {
-		x := play(t, seed)
+		x := sampled(t, seed)
 		if id, ok := proj.Holds(x.setup, x.scripts, x.told); id != 0 || !ok {
 			t.Fatal(seed, id)
 		}

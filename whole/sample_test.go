@@ -144,6 +144,8 @@ func (s source) rounds(n int) []api.Round {
 			x := api.Report{Id: who(), Read: s.one(2), Write: s.one(2)}
 			if x.Write {
 				x.Accept = s.Intn(6)
+			} else {
+				x.Read = true
 			}
 			r.Reports = append(r.Reports, x)
 		}
