@@ -3,7 +3,10 @@ package whole
 import (
 	"testing"
 
+	"repartee/api"
 	"repartee/fair"
+	"repartee/proj"
+	"repartee/sends"
 	"repartee/waits"
 )
 
@@ -25,4 +28,53 @@ func TestWaitsLaws(t *testing.T) {
 	if done < 1000 {
 		t.Error("too few waits", done)
 	}
+}
+
+// P36.4, and P3 of the whole: no send is late, many are done, and what is taken is in order.
+func TestSendsLaws(t *testing.T) {
+	bound, done := 0, 0
+	for seed := range 1500 {
+		x := longer(t, seed)
+		f, _, e := fair.Of(x.setup, x.scripts, x.rounds...)
+		if e != api.OK {
+			t.Fatal(e)
+		}
+		if late := sends.Late(x.setup, x.scripts, x.told, f.Write); len(late) != 0 {
+			t.Fatal(seed, late)
+		}
+		for _, v := range sends.Of(x.scripts, x.told) {
+			if v.From+sends.Bound(x.setup, v, f.Write) < len(x.rounds) {
+				bound++
+			}
+			if v.Done && v.Taken == v.Long {
+				done++
+			}
+		}
+		for _, id := range proj.Ids(x.told) {
+			if _, ok := sends.Order(x.scripts, x.told, id); !ok {
+				t.Fatal("Order", seed, id)
+			}
+		}
+	}
+	if bound < 300 || done < 300 {
+		t.Error("too few sends", bound, done)
+	}
+}
+
+// longer is sampled, but with more rounds behind it, in which all are read and written.
+func longer(t *testing.T, seed int) played {
+	x := sampled(t, seed)
+	for n := range 60 {
+		r := api.Round{Ticks: int64(n % 2)}
+		for _, id := range proj.Ids(x.told) {
+			r.Reports = append(r.Reports, api.Report{Id: id, Read: true, Write: n%2 == 0, Accept: 3 - 3*(n%2)})
+		}
+		x.rounds = append(x.rounds, r)
+	}
+	x.told = nil
+	e := made(t, x.setup, x.scripts)
+	for _, round := range x.rounds {
+		x.told = append(x.told, e.Round(round)...)
+	}
+	return x
 }
