@@ -5,6 +5,7 @@ import (
 
 	"repartee/api"
 	"repartee/fair"
+	"repartee/grace"
 	"repartee/proj"
 	"repartee/sends"
 	"repartee/waits"
@@ -77,4 +78,27 @@ func longer(t *testing.T, seed int) played {
 		x.told = append(x.told, e.Round(round)...)
 	}
 	return x
+}
+
+// P37.4, and P5 of the whole: behind a drain nobody is admitted, all end once and in time, then the engine stops.
+func TestGraceLaws(t *testing.T) {
+	bounds := 0
+	for seed := range 1500 {
+		x := longer(t, seed)
+		each := fair.Ticks(x.told)
+		if _, ok := grace.Bound(x.setup, x.told, each); ok {
+			bounds++
+		}
+		if late := grace.Late(x.setup, x.told, each); len(late) != 0 || !grace.Stops(x.setup, x.told, each) || !grace.Closed(x.told) {
+			t.Fatal(seed, late)
+		}
+		for _, id := range proj.Ids(x.told) {
+			if !grace.Once(x.told, id) {
+				t.Fatal("Once", seed, id)
+			}
+		}
+	}
+	if bounds < 100 {
+		t.Error("too few drains with a bound", bounds)
+	}
 }
