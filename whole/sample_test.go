@@ -33,7 +33,7 @@ func (s source) bytes(most int) string {
 
 // setup is a setup of small numbers.
 func (s source) setup() api.Setup {
-	return api.Setup{Live: 1 + s.Intn(4), Ring: 1 + s.Intn(8), Win: 1 + s.Intn(10), Out: 1 + s.Intn(5), Quantum: 1 + s.Intn(12), Visits: 1 + s.Intn(3)}
+	return api.Setup{Live: 1 + s.Intn(4), Ring: 1 + s.Intn(8), Win: 1 + s.Intn(20), Out: 1 + s.Intn(5), Quantum: 1 + s.Intn(12), Visits: 1 + s.Intn(3)}
 }
 
 // pattern is a pattern that may be waited for.
@@ -44,14 +44,14 @@ func (s source) pattern() string {
 // op is an op of a script with so many.
 func (s source) op(ops int) api.Op {
 	to := func() int { return s.Intn(ops + 1) }
-	op := api.Op{Kind: []int{1, 1, 2, 2, 2, 2, 3, 4, 5, 6}[s.Intn(10)]}
+	op := api.Op{Kind: []int{1, 1, 1, 2, 2, 2, 2, 2, 2, 2, 3, 4, 5, 6}[s.Intn(14)]}
 	switch op.Kind {
 	case api.OpSend:
 		op.Text = "x" + s.bytes(11)
 	case api.OpExpect:
-		op.N, op.OnTimeout, op.OnEof = []int64{0, 1, 3, 9, 20, api.Never}[s.Intn(6)], to()-s.Intn(2), to()-s.Intn(2)
+		op.N, op.OnTimeout, op.OnEof = []int64{0, 2, 9, 20, 60, api.Never}[s.Intn(6)], to()-s.Intn(2), to()-s.Intn(2)
 		op.OnTimeout, op.OnEof = max(op.OnTimeout, -1), max(op.OnEof, -1)
-		for range s.Intn(4) {
+		for range s.Intn(5) {
 			op.Arms = append(op.Arms, api.Arm{Pattern: s.pattern(), To: to()})
 		}
 	case api.OpGoto:
@@ -64,8 +64,8 @@ func (s source) op(ops int) api.Op {
 
 // script is a good script.
 func (s source) script() api.Prog {
-	p := api.Prog{Name: "s", Deadline: []int64{3, 15, 40, api.Never}[s.Intn(4)], Jumps: []int{0, 2, 5, 30}[s.Intn(4)]}
-	ops := s.Intn(8)
+	p := api.Prog{Name: "s", Deadline: []int64{3, 40, 90, api.Never}[s.Intn(4)], Jumps: []int{0, 2, 9, 90}[s.Intn(4)]}
+	ops := s.Intn(12)
 	for range ops {
 		p.Ops = append(p.Ops, s.op(ops))
 	}
@@ -110,12 +110,12 @@ func (s source) inputs(n int) []api.Input {
 	return l
 }
 
-// scripts are up to four scripts, most of them good.
+// scripts are five scripts, most of them good.
 func (s source) scripts() []api.Prog {
 	var l []api.Prog
-	for range 1 + s.Intn(4) {
+	for range 5 {
 		p := s.script()
-		if s.one(8) {
+		if s.one(12) {
 			p.Jumps = -1
 		}
 		l = append(l, p)
@@ -132,15 +132,15 @@ func (s source) rounds(n int) []api.Round {
 		if s.one(12) {
 			r.Ticks = int64(s.Intn(30))
 		}
-		for s.one(3) {
-			r.Opens = append(r.Opens, s.Intn(5))
+		for s.one(5) {
+			r.Opens = append(r.Opens, s.Intn(5+s.Intn(12)/11))
 			opened++
 		}
-		who := func() int { return max(0, opened-s.Intn(6)) }
-		for s.one(2) {
-			r.Offers = append(r.Offers, api.Offer{Id: who(), Bytes: s.bytes(7), Eof: s.one(9)})
-		}
+		who := func() int { return max(0, opened-1-s.Intn(5)) }
 		for !s.one(3) {
+			r.Offers = append(r.Offers, api.Offer{Id: who(), Bytes: s.bytes(7), Eof: s.one(30)})
+		}
+		for !s.one(5) {
 			x := api.Report{Id: who(), Read: s.one(2), Write: s.one(2)}
 			if x.Write {
 				x.Accept = s.Intn(6)
