@@ -7,6 +7,7 @@ import (
 	"repartee/fair"
 	"repartee/grace"
 	"repartee/proj"
+	"repartee/prompt"
 	"repartee/sends"
 	"repartee/waits"
 )
@@ -100,5 +101,26 @@ func TestGraceLaws(t *testing.T) {
 	}
 	if bounds < 100 {
 		t.Error("too few drains with a bound", bounds)
+	}
+}
+
+// P41.3, and P2 of the whole: no match is late, and what was found had been read.
+func TestPromptLaws(t *testing.T) {
+	lags, worst := 0, 0
+	for seed := range 1500 {
+		x := sampled(t, seed)
+		if late := prompt.Late(x.setup, x.scripts, x.told); len(late) != 0 {
+			t.Fatal(seed, late)
+		}
+		for _, v := range prompt.Of(x.scripts, x.told) {
+			lags++
+			if v.Read < 0 {
+				t.Fatal("not read", seed, v)
+			}
+		}
+		worst = max(worst, prompt.Worst(x.scripts, x.told))
+	}
+	if lags < 1000 || worst < 3 {
+		t.Error("too few lags", lags, worst)
 	}
 }
