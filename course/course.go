@@ -79,19 +79,20 @@ func (s *splitter) open(x api.Event) {
 	s.parts[x.Id] = p
 }
 
-// Mark is an event of one: in which round it is, and, if one comes to an op by it, that op, and the tick; else -1 and 0.
+// Mark is an event of one: in which round it is, and, if one comes to an op by it, that op, its kind (0 of the end), and the tick; else -1, 0 and 0.
 type Mark struct {
 	Event api.Event
 	Round int
 	Op    int
+	Kind  int
 	Tick  int64
 }
 
 // Course is what happened to one whose script there is, and is good, from his opening on.
 type Course struct {
-	Id    int
-	Prog  api.Prog
-	Marks []Mark
+	Id     int
+	Script int
+	Marks  []Mark
 }
 
 // Of is the courses of all whose scripts there are, and are good, by Ids rising.
@@ -104,7 +105,7 @@ func Of(scripts []api.Prog, l []api.Event) []Course {
 	for _, part := range Parts(l) {
 		n := part.script()
 		if n >= 0 && n < len(scripts) && good[n] {
-			courses = append(courses, part.course(scripts[n]))
+			courses = append(courses, Course{Id: part.Id, Script: n, Marks: part.marks(scripts[n])})
 		}
 	}
 	return courses
@@ -116,9 +117,9 @@ func (p Part) script() int {
 	return p.Events[opened].N
 }
 
-// course is the course of one by his script.
-func (p Part) course(script api.Prog) Course {
-	c := Course{Id: p.Id, Prog: script}
+// marks is the events of one from his opening on, by his script.
+func (p Part) marks(script api.Prog) []Mark {
+	var marks []Mark
 	now := int64(0)
 	for i, x := range p.Events {
 		m := Mark{Event: x, Round: p.Rounds[i], Op: -1}
@@ -127,23 +128,24 @@ func (p Part) course(script api.Prog) Course {
 			now = x.Tick
 			continue
 		case api.EvOpen:
-			m.Op, m.Tick = 0, now
+			m.come(script, 0, now)
 		case api.EvStep:
-			if m.Op = Next(script, x.Step); m.Op >= 0 {
-				m.Tick = x.Step.Tick
-			}
+			m.come(script, Next(script, x.Step), x.Step.Tick)
 		}
-		c.Marks = append(c.Marks, m)
+		marks = append(marks, m)
 	}
-	return c
+	return marks
 }
 
-// Kind is the kind of the op to which one comes by an event; 0, if he comes to none, or to the end.
-func (c Course) Kind(m Mark) int {
-	if m.Op < 0 || m.Op >= len(c.Prog.Ops) {
-		return 0
+// come notes to which op one comes, if he comes to one, and when.
+func (m *Mark) come(script api.Prog, op int, at int64) {
+	if op < 0 {
+		return
 	}
-	return c.Prog.Ops[m.Op].Kind
+	m.Op, m.Tick = op, at
+	if op < len(script.Ops) {
+		m.Kind = script.Ops[op].Kind
+	}
 }
 
 // Leaves tells whether one leaves his op by an event, as far as that tells by itself: it is a step, and did more than to look or to lay something out.

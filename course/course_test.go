@@ -33,12 +33,17 @@ func TestOf(t *testing.T) {
 	woke := api.Event{Kind: api.EvStep, Id: 1, Step: api.Step{Tick: 7, What: api.WWoke}}
 	l := []api.Event{{Kind: api.EvRound, Tick: 5}, {Kind: api.EvOpen, Id: 1, N: 1}, {Kind: api.EvOpen, Id: 0, N: 0}, {Kind: api.EvOpen, Id: 2, N: 2}, {Kind: api.EvOpen, Id: 3, N: -1}, {Kind: api.EvRound, Tick: 6}, {Kind: api.EvRead, Id: 1}, woke}
 	c := Of([]api.Prog{{}, p}, l)
-	if len(c) != 1 || c[0].Id != 1 || !slices.Equal(c[0].Marks, []Mark{{Event: l[1], Tick: 5}, {Event: l[6], Round: 1, Op: -1}, {Event: woke, Round: 1, Op: 1, Tick: 7}}) {
+	if len(c) != 1 || c[0].Id != 1 || c[0].Script != 1 || !slices.Equal(c[0].Marks, []Mark{{Event: l[1], Kind: api.OpPause, Tick: 5}, {Event: l[6], Round: 1, Op: -1}, {Event: woke, Round: 1, Op: 1, Kind: api.OpExpect, Tick: 7}}) {
 		t.Fatal(c)
 	}
 	m := c[0].Marks
-	if c[0].Kind(m[0]) != api.OpPause || c[0].Kind(m[1]) != 0 || c[0].Kind(m[2]) != api.OpExpect || m[0].Leaves() || m[1].Leaves() || !m[2].Leaves() || c[0].Kind(Mark{Op: 2}) != 0 {
-		t.Error("Kind, Leaves")
+	if m[0].Leaves() || m[1].Leaves() || !m[2].Leaves() {
+		t.Error("Leaves")
+	}
+	end := api.Event{Kind: api.EvStep, Id: 1, Step: api.Step{At: 1, What: api.WMatch}}
+	p.Ops[1].Arms = []api.Arm{{Pattern: "x", To: 2}}
+	if m := Of([]api.Prog{{}, p}, append(l, end))[0].Marks[3]; m != (Mark{Event: end, Round: 1, Op: 2}) {
+		t.Error("the end", m)
 	}
 	for _, what := range []int{api.WLook, api.WLoad} {
 		if (Mark{Event: api.Event{Kind: api.EvStep, Step: api.Step{What: what}}}).Leaves() {
