@@ -143,6 +143,22 @@ func TestComesAnew(t *testing.T) {
 	}
 }
 
+// P22.4: one byte that was not looked at is enough, in the window or in the ring.
+func TestReadyByOneByte(t *testing.T) {
+	p := script(t, "a never 9", "expect 3", "on \"x\" b", "timeout b", "label b", "expect 9", "on \"b\" c", "label c", "expect 9")
+	d := begun(t, plain, p, 0)
+	d.Put("b")
+	does(t, d, 0, api.Step{What: api.WLook, N: 1})
+	does(t, d, 3, api.Step{Tick: 3, What: api.WTimeout})
+	if d.Waits() != 0 || !d.Ready(3) || d.Price() != 2 {
+		t.Error(told(d))
+	}
+	does(t, d, 3, api.Step{Tick: 3, At: 1, What: api.WMatch, N: 1})
+	idle(t, d, 3)
+	d.Put("z")
+	does(t, d, 3, api.Step{Tick: 3, At: 2, What: api.WLook, N: 1})
+}
+
 // P22.3: Put, Eof, Take, Cut, while it runs and behind its end.
 func TestPutEofTakeCut(t *testing.T) {
 	d := begun(t, plain, script(t, "a 99 0", "send \"hello\"", "done"), 0)

@@ -204,6 +204,13 @@ func TestReads(t *testing.T) {
 	}
 	e = made(t, plain, script(t, "99", "pause 50"))
 	tells(t, e, api.Round{Opens: []int{0}, Offers: []api.Offer{{Id: 0, Eof: true}}, Reports: []api.Report{{Id: 0, Read: true}, {Id: 0, Read: true}}}, "round 0", "open 0 0", "eof 0")
+	// Room for one byte is room.
+	e = made(t, plain, script(t, "99", "pause 50"))
+	tells(t, e, api.Round{Opens: []int{0}, Offers: []api.Offer{{Id: 0, Bytes: "abc"}}, Reports: []api.Report{{Id: 0, Read: true}}}, "round 0", "open 0 0", "read 0 abc")
+	if !slices.Equal(e.Reads(), []int{0}) {
+		t.Error(e.Reads())
+	}
+	tells(t, e, api.Round{Offers: []api.Offer{{Id: 0, Bytes: "de"}}, Reports: []api.Report{{Id: 0, Read: true}}}, "round 0", "read 0 d")
 	// Too much at once is let be.
 	e = made(t, plain, script(t, "99", "pause 50"))
 	tells(t, e, api.Round{Opens: []int{0}, Offers: []api.Offer{{Id: 0, Bytes: strings.Repeat("x", api.MaxOffer+1), Eof: true}, {Id: 0, Bytes: "y"}}, Reports: []api.Report{{Id: 0, Read: true}}}, "round 0", "open 0 0", "read 0 y")
@@ -235,6 +242,16 @@ func TestDrains(t *testing.T) {
 	e = made(t, s, wait, script(t, "7", "expect never"))
 	e.Round(api.Round{Opens: []int{0, 1}})
 	tells(t, e, api.Round{Ticks: 7, Abort: true, Drain: 5, Reports: []api.Report{{Id: 0, Read: true}}, Offers: []api.Offer{{Id: 0, Bytes: "x"}}}, "round 7", "drain 7", "step 0 7 0 14 0 0 5", "step 1 7 0 12 0 0 3", "stop")
+	if len(e.Ready())+len(e.Timers()) != 0 {
+		t.Error("somebody waits behind an abort", e.Ready(), e.Timers())
+	}
+	// At once, while some wait for their turn.
+	e = made(t, s, script(t, "9", "pause 0", "expect never"))
+	e.Round(api.Round{Opens: []int{0, 0}})
+	tells(t, e, api.Round{Abort: true}, "round 0", "drain 0", "step 0 0 1 14 0 0 5", "step 1 0 0 14 0 0 5", "stop")
+	if len(e.Ready()) != 0 {
+		t.Error("somebody waits behind an abort", e.Ready())
+	}
 	// At once behind a drain, and with nobody there.
 	e = made(t, s, wait)
 	e.Round(api.Round{Opens: []int{0}})

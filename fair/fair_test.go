@@ -79,6 +79,9 @@ func TestOf(t *testing.T) {
 		{send, []api.Round{open, none, {Abort: true}, none, none}, Fair{1, 1, 2}},
 		{send, []api.Round{open, {Drain: 1}, none, none}, Fair{1, 1, 2}},
 		{pause, []api.Round{reads(0, "a"), {Ticks: 9, Opens: []int{0}}, none}, Fair{9, 1, 1}},
+		// In whatever order they are read and written.
+		{pause, []api.Round{{Opens: []int{0, 0}}, {Offers: []api.Offer{{Id: 1, Bytes: "b"}, {Id: 0, Bytes: "a"}}, Reports: []api.Report{{Id: 1, Read: true}, {Id: 0, Read: true}}}, none}, Fair{1, 1, 1}},
+		{send, []api.Round{{Opens: []int{0, 0}}, {Reports: []api.Report{{Id: 1, Write: true, Accept: 3}, {Id: 0, Write: true, Accept: 3}}}, none}, Fair{1, 1, 2}},
 		// Each by itself.
 		{pause, []api.Round{{Opens: []int{0, 0}}, reads(0, "a"), reads(1, "b"), poll, poll}, Fair{1, 4, 1}},
 	} {

@@ -69,6 +69,9 @@ func TestTotal(t *testing.T) {
 	if got := Total(some[:10]); got != (Row{Id: 3, From: 3, Steps: 2, Looks: 1, Jumps: 1, Read: 6, Taken: 5, Status: 3, End: never}) {
 		t.Error(got)
 	}
+	if got := Total([]api.Event{round(5), open(0, 0), open(1, 0), step(0, 6, api.WDone, 1), step(1, 9, api.WDone, 1)}); got != (Row{Id: 2, From: 5, Steps: 2, End: 9}) {
+		t.Error("the greatest end", got)
+	}
 	if got := Total([]api.Event{round(-5), open(0, 0), step(0, -3, api.WFail, 2)}); got != (Row{Id: 1, From: -5, Steps: 1, End: -3}) {
 		t.Error("as the row", got)
 	}

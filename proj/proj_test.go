@@ -73,6 +73,9 @@ func TestOf(t *testing.T) {
 			t.Error(id, x, ok)
 		}
 	}
+	if x, ok := Of([]api.Event{round(7), open(3, 1)}, 3); !same(x, Life{Id: 3, Script: 1, From: 7}) || !ok {
+		t.Error("right behind the first round", x, ok)
+	}
 	if x, ok := Of([]api.Event{open(3, 1), round(7)}, 3); !same(x, Life{Id: 3, Script: 1}) || !ok {
 		t.Error("ahead of any round", x, ok)
 	}
@@ -100,6 +103,20 @@ func TestHolds(t *testing.T) {
 	}
 	if id, ok := Holds(s, scripts, l); id != 0 || !ok {
 		t.Fatal(id, ok, l)
+	}
+	// Who is opened anew has his first life alone, and one of whom nothing was opened has none.
+	if id, ok := Holds(s, scripts, append(slices.Clone(l), open(0, 1), eof(9), read(9, "x"))); id != 0 || !ok {
+		t.Error("opened anew", id, ok)
+	}
+	late := api.Step{Tick: 50, What: api.WTimeout, Status: api.SFailed}
+	early := late
+	early.Tick = 49
+	ahead := []api.Event{open(0, 0), step(0, late)}
+	if id, ok := Holds(s, scripts, ahead); id != 0 || !ok {
+		t.Error("ahead of any round", id, ok)
+	}
+	if id, ok := Holds(s, scripts, []api.Event{open(0, 0), step(0, early)}); id != 0 || ok {
+		t.Error("too early", id, ok)
 	}
 	if id, ok := Holds(s, nil, nil); id != 0 || !ok {
 		t.Error("no life", id, ok)

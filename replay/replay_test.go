@@ -73,6 +73,7 @@ func TestAborts(t *testing.T) {
 	}{
 		{0, nil, false}, {0, []api.Event{round(3)}, false}, {0, []api.Event{round(3), drain(3), stop}, true}, {0, []api.Event{drain(0), stop}, true}, {0, []api.Event{drain(3), stop}, false}, {0, []api.Event{round(3), drain(4), stop}, false}, {0, []api.Event{round(3), round(4), drain(4), stop}, true},
 		{1, []api.Event{round(3), drain(3), stop}, false}, {2, []api.Event{round(3), open(9, 0), drain(3), ends(0), ends(9), stop}, true}, {2, []api.Event{round(3), drain(3), ends(9), ends(0), stop}, false}, {2, []api.Event{round(3), drain(3), ends(0), ends(0), stop}, false}, {2, []api.Event{round(3), drain(3), ends(0), looks(9), stop}, false}, {2, []api.Event{round(3), drain(3), ends(0), ends(9)}, false}, {1, []api.Event{round(3), drain(3), ends(0), ends(9), stop}, false}, {3, []api.Event{round(3), drain(3), ends(0), ends(9), stop}, false},
+		{3, []api.Event{round(3), drain(3), ends(0), ends(5), ends(9), stop}, true}, {3, []api.Event{round(3), drain(3), ends(0), ends(9), ends(5), stop}, false}, {3, []api.Event{round(3), drain(3), ends(5), ends(0), ends(9), stop}, false},
 		{1, []api.Event{round(3), drain(3), ends(0), stop, stop}, false}, {1, []api.Event{round(3), drain(3), ends(0), stop, round(4)}, false}, {1, []api.Event{round(3), drain(3), read(0, "x"), ends(0), stop}, false}, {2, []api.Event{round(3), drain(3), eof(0), ends(1), stop}, false}, {1, []api.Event{round(3), drain(4), drain(3), ends(0), stop}, false},
 		{-1, []api.Event{round(3), drain(3)}, false}, {-1, []api.Event{round(3), drain(3), stop}, false}, {1<<63 - 1, []api.Event{round(3), drain(3), stop}, false}, {-1 << 63, []api.Event{drain(0)}, false},
 	} {
@@ -92,6 +93,9 @@ func TestAgainApart(t *testing.T) {
 		l = append(l, e.Round(r)...)
 	}
 	if ok, e := Again(s, []api.Prog{p}, append([]api.Event{stop, open(0, 0)}, l...)); !ok || e != api.OK {
+		t.Error(ok, e)
+	}
+	if ok, e := Again(s, []api.Prog{p}, l); !ok || e != api.OK {
 		t.Error(ok, e)
 	}
 	if ok, e := Again(s, nil, l); ok || e != api.OK {

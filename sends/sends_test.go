@@ -34,7 +34,7 @@ func took(id, n int) api.Event { return api.Event{Kind: api.EvWrite, Id: id, N: 
 func TestOf(t *testing.T) {
 	scripts := []api.Prog{script(t, "label t", "send \"hello\"", "expect 3", "timeout t", "send \"abc\""), {}}
 	l := []api.Event{
-		open(7, 0), round, open(3, 0), open(1, 0), open(2, 1), open(4, 2), took(3, 0), step(3, 0, api.WLoad), round, took(3, 3), step(1, 0, api.WLoad), step(3, 0, api.WLoad), step(3, 0, api.WLook), took(3, -9),
+		open(7, 0), round, open(3, 0), open(1, 0), open(2, 1), open(4, 2), took(3, 0), step(3, 0, api.WLoad), round, took(3, 3), {Kind: api.EvRead, Id: 3, N: 9, Bytes: "123456789"}, step(1, 0, api.WLoad), step(3, 0, api.WLoad), step(3, 0, api.WLook), took(3, -9),
 		round, took(3, 2), took(1, 1), round, took(3, 4), step(3, 0, api.WSent), took(3, 77), step(1, 0, api.WDrained),
 		round, step(3, 1, api.WTimeout), took(3, 1), round, took(1, 9), open(3, 0),
 	}
@@ -111,7 +111,7 @@ func TestBoundLate(t *testing.T) {
 
 // P36.3: Order.
 func TestOrder(t *testing.T) {
-	scripts := []api.Prog{script(t, "send \"ab\"", "send \"cd\"", "expect 3"), {}, script(t, "expect 3")}
+	scripts := []api.Prog{script(t, "send \"ab\"", "send \"cd\"", "expect 3"), {}, script(t, "expect 3"), {Name: "A"}, script(t, "pause 1")}
 	one, two := step(0, 0, api.WSent), step(0, 1, api.WSent)
 	for i, x := range []struct {
 		l     []api.Event
@@ -120,6 +120,7 @@ func TestOrder(t *testing.T) {
 	}{
 		{[]api.Event{open(0, 0)}, "ab", true}, {[]api.Event{open(0, 0), wrote(0, "a")}, "ab", true}, {[]api.Event{open(0, 0), wrote(0, "b")}, "ab", false}, {[]api.Event{open(0, 0), wrote(0, "abc")}, "ab", false},
 		{[]api.Event{open(0, 0), wrote(0, "ab"), one}, "abcd", true}, {[]api.Event{open(0, 0), wrote(0, "a"), one}, "abcd", false}, {[]api.Event{open(0, 0), wrote(0, "ab"), one, wrote(0, "c")}, "abcd", true}, {[]api.Event{open(0, 0), wrote(0, "ab"), one, wrote(0, "cd"), two, wrote(1, "x")}, "abcd", true}, {[]api.Event{open(0, 0), wrote(0, "ab"), one, wrote(0, "cx"), two}, "abcd", false},
+		{[]api.Event{open(0, 0), wrote(0, "ab"), step(0, 0, api.WLook), one, wrote(0, "c"), two, step(0, 2, api.WTimeout), step(0, 2, api.WLook)}, "abcd", true}, {[]api.Event{open(0, 4), step(0, 0, api.WWoke)}, "", true},
 		{[]api.Event{open(0, 2)}, "", true}, {[]api.Event{open(0, 2), wrote(0, "x")}, "", false}, {[]api.Event{open(0, 1)}, "", false}, {[]api.Event{open(0, 3)}, "", false}, {[]api.Event{open(1, 0)}, "", false}, {nil, "", false},
 	} {
 		if texts, ok := Order(scripts, x.l, 0); texts != x.texts || ok != x.ok {

@@ -151,6 +151,7 @@ func TestDo(t *testing.T) {
 	tells(t, s, "late", "late 0 0 0")
 	tells(t, s, `do "tick 1\ndrain 2"`, "round 10", "drain 12", "ok")
 	tells(t, s, `do "tick 90"`, "round 100", "step 1 100 0 drained 0 0 drained", "stop", "ok")
+	tells(t, s, "fair", "fair 90 2 2")
 	tells(t, s, "ends", "0 done", "1 drained", "stopped")
 	tells(t, s, "late", "late 0 0 0")
 	if len(s.Events()) != 17 {

@@ -79,6 +79,10 @@ func TestTurn(t *testing.T) {
 	x.Wake(1)
 	x.Wake(2)
 	x.Begin()
+	x.Wake(3)
+	if !x.Leave(3) || !stands(x, 1, 5, 2) {
+		t.Error("Leave of one who waits, while a turn is on")
+	}
 	if x.Leave(0) || x.Leave(-1) || x.Leave(9) || !x.Leave(1) || x.Leave(1) || x.Has(1) != 0 || !stands(x, -1, 5, 2) || x.End(true) || !x.Wake(1) || !stands(x, -1, 5, 2, 1) {
 		t.Error("Leave of one whose turn it is")
 	}

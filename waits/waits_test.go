@@ -66,7 +66,7 @@ func TestOf(t *testing.T) {
 	p := script(t, "label t", "expect 10", "on \"a\" b", "timeout t", "label b", "pause 2", "expect never", "eof b")
 	scripts := []api.Prog{p, {}, script(t, "pause 3")}
 	l := []api.Event{
-		open(8, 0), round(3), open(5, 0), open(1, 0), open(2, 1), open(3, 9), open(4, 2), step(1, 3, 0, api.WLook), step(1, 3, 0, api.WLoad),
+		open(8, 0), open(9, 2), step(9, 2, 0, api.WWoke), round(3), open(5, 0), open(1, 0), open(2, 1), open(3, 9), open(4, 2), step(1, 3, 0, api.WLook), step(1, 3, 0, api.WLoad),
 		round(14), step(5, 14, 0, api.WTimeout), step(1, 14, 0, api.WMatch), step(1, 15, 1, api.WWoke), step(2, 15, 0, api.WTimeout),
 		step(5, 16, 0, api.WLook), {Kind: api.EvRead, Id: 5}, {Kind: api.EvStep, Id: 5, Step: api.Step{Tick: 17, What: api.WDrained, Status: api.SDrained}}, step(5, 18, 0, api.WTimeout), open(1, 0), step(1, 19, 2, 0),
 	}
@@ -127,6 +127,9 @@ func TestLate(t *testing.T) {
 		if len(Late(s, scripts, of(50, 60), each)) != 0 {
 			t.Error(each)
 		}
+	}
+	if len(Late(s, scripts, of(50, 60), 1)) != 1 || len(Late(s, scripts, of(15, 60), 1)) != 0 || len(Late(s, scripts, of(16, 60), 1)) != 1 {
+		t.Error("each tick")
 	}
 	if len(Late(api.Setup{}, scripts, of(50, 60), 2)) != 0 || len(Late(s, scripts, of(0, never), never)) != 0 {
 		t.Error("no bound")

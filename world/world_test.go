@@ -111,7 +111,7 @@ func TestRead(t *testing.T) {
 		line, col int
 		e         api.Errno
 	}{
-		{strings.Repeat("#", 40001), 0, 0, api.ErrLong}, {strings.Repeat("tick", 10001), 0, 0, api.ErrLong},
+		{strings.Repeat("#", 40001), 0, 0, api.ErrLong}, {strings.Repeat("#", 40000), 0, 0, api.OK}, {strings.Repeat("tick", 10001), 0, 0, api.ErrLong},
 		{" tick 0", 1, 1, api.ErrForm}, {"tick  0", 1, 6, api.ErrForm}, {head + "offer 0 \"", 2, 10, api.ErrEnd}, {head + "offer 0 \"\\q\"", 2, 11, api.ErrForm}, {head + strings.Repeat("x", 1300), 2, 1201, api.ErrLong},
 		{"\"tick\" 0", 1, 1, api.ErrWord}, {"foo", 1, 1, api.ErrWord}, {"#\n\nTick 0", 3, 1, api.ErrWord}, {"foo 0", 1, 1, api.ErrWord}, {"open 0", 1, 1, api.ErrState}, {"abort x", 1, 1, api.ErrState}, {"drain x", 1, 1, api.ErrState}, {head + "drain 1\ndrain 2", 3, 1, api.ErrDup}, {head + "drain 0\ndrain", 3, 1, api.ErrDup}, {head + "abort\nabort x", 3, 1, api.ErrDup}, {head + "abort x", 2, 7, api.ErrForm},
 		{"tick", 1, 5, api.ErrEnd}, {"tick ", 1, 6, api.ErrEnd}, {"tick x", 1, 6, api.ErrForm}, {"tick 01", 1, 6, api.ErrForm}, {"tick -1", 1, 6, api.ErrForm}, {"tick 1000000000001", 1, 6, api.ErrRange}, {"tick never", 1, 6, api.ErrRange}, {"tick \"0\"", 1, 6, api.ErrForm}, {"tick 0 0", 1, 8, api.ErrForm}, {"tick x 0", 1, 6, api.ErrForm},
