@@ -73,11 +73,7 @@ func longer(t *testing.T, seed int) played {
 		}
 		x.rounds = append(x.rounds, r)
 	}
-	x.told = nil
-	e := made(t, x.setup, x.scripts)
-	for _, round := range x.rounds {
-		x.told = append(x.told, e.Round(round)...)
-	}
+	x.do(t)
 	return x
 }
 

@@ -19,11 +19,17 @@ type played struct {
 func sampled(t *testing.T, seed int) played {
 	r := from(seed)
 	x := played{setup: r.setup(), scripts: r.scripts(), rounds: r.rounds(60)}
+	x.do(t)
+	return x
+}
+
+// do lets an engine do the rounds.
+func (x *played) do(t *testing.T) {
+	x.told = nil
 	e := made(t, x.setup, x.scripts)
 	for _, round := range x.rounds {
 		x.told = append(x.told, e.Round(round)...)
 	}
-	return x
 }
 
 // P31.4, and P1 of the whole: each life is what its script comes to by itself.

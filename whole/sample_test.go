@@ -123,7 +123,7 @@ func (s source) scripts() []api.Prog {
 	return l
 }
 
-// rounds are what happens to an engine: about n dialogues a round of each ten are opened, few are drained.
+// rounds are n rounds of what may happen to an engine that has the scripts of a sample; in some of them it is drained, or aborted.
 func (s source) rounds(n int) []api.Round {
 	var l []api.Round
 	opened, drains := 0, s.Intn(4)
